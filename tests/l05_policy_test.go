@@ -164,7 +164,7 @@ func lineByRule(l []impl.Option) impl.Line {
 	x := impl.Line{Mru: 300, Accm: top32}
 	for _, o := range l {
 		switch {
-		case o.Kind == 1 && len(o.Data) == 2:
+		case o.Kind == 1 && len(o.Data) == 2 && numberByRule(o.Data) >= 64 && numberByRule(o.Data) <= 300:
 			x.Mru = numberByRule(o.Data)
 		case o.Kind == 2 && len(o.Data) == 4:
 			x.Accm = numberByRule(o.Data)
@@ -801,6 +801,9 @@ func TestLineOf(t *testing.T) {
 		{"Mru of three", []impl.Option{{Kind: 1, Data: "\x00\x00\x64"}}, plain},
 		{"Mru, the last counts", []impl.Option{{Kind: 1, Data: "\x00\x64"}, {Kind: 1, Data: "\x00\x65"}}, impl.Line{Mru: 101, Accm: top32}},
 		{"Mru, the last as it is laid counts", []impl.Option{{Kind: 1, Data: "\x00\x64"}, {Kind: 1}}, impl.Line{Mru: 100, Accm: top32}},
+		{"Mru of 5, which no right Config has", []impl.Option{{Kind: 1, Data: "\x00\x05"}}, plain},
+		{"Mru of 100, and of 0, which no right Config has", []impl.Option{{Kind: 1, Data: "\x00\x64"}, {Kind: 1, Data: "\x00\x00"}}, impl.Line{Mru: 100, Accm: top32}},
+		{"Mru of 100, and of 300, the last counts", []impl.Option{{Kind: 1, Data: "\x00\x64"}, {Kind: 1, Data: "\x01\x2c"}}, plain},
 		{"Accm", []impl.Option{{Kind: 2, Data: "\x00\x00\x00\x00"}}, impl.Line{Mru: 300}},
 		{"Accm of three bytes", []impl.Option{{Kind: 2, Data: "\x00\x00\x00"}}, plain},
 		{"Accm of five", []impl.Option{{Kind: 2, Data: "\x00\x00\x00\x00\x00"}}, plain},
@@ -834,6 +837,21 @@ func TestLineOf(t *testing.T) {
 	for _, count := range []int{20, 21, impl.MaxList, impl.MaxList + 1} {
 		l := manyOptions(count, impl.Option{Kind: 7})
 		wantLine(t, "many", l, lineByRule(l))
+	}
+}
+
+// An OptMru counts just of the numbers that a right Config may have, alone and behind another one.
+func TestLineOfEachMru(t *testing.T) {
+	first := impl.Option{Kind: 1, Data: "\x00\x64"}
+	for n := range int64(65536) {
+		o := impl.Option{Kind: 1, Data: bytesByRule(n, 2)}
+		alone, behind := int64(300), int64(100)
+		if n >= 64 && n <= 300 {
+			alone, behind = n, n
+		}
+		wantLine(t, "alone", []impl.Option{o}, impl.Line{Mru: alone, Accm: top32})
+		wantLine(t, "behind 100", []impl.Option{first, o}, impl.Line{Mru: behind, Accm: top32})
+		wantLine(t, "ahead of 100", []impl.Option{o, first}, impl.Line{Mru: 100, Accm: top32})
 	}
 }
 
