@@ -1105,11 +1105,17 @@ func wantNothingShared(t *testing.T, what string, e impl.End, p impl.Packet, x i
 	for _, q := range x.Send {
 		sent = append(sent, q.Data)
 	}
-	groups := [][]string{given, mine, peer, sent}
+	wantApart(t, what, given, mine, peer, sent)
+}
+
+// wantApart: no text of one group lies in the memory of one of another group.
+func wantApart(t *testing.T, what string, groups ...[]string) {
+	t.Helper()
 	for at, one := range groups {
 		for _, other := range groups[at+1:] {
 			for _, a := range one {
 				for _, b := range other {
+					// Texts of one byte stand in one place for the whole program.
 					if len(a) > 1 && len(b) > 1 && sharesText(a, b) {
 						t.Errorf("%s: %q and %q share memory", what, a, b)
 					}

@@ -890,19 +890,7 @@ func wantNoLapbShared(t *testing.T, what string, given []string, x impl.LapbOut)
 	for _, f := range x.Send {
 		sent = append(sent, f.Text)
 	}
-	groups := [][]string{given, x.Lapb.Queue, sent, x.Got}
-	for at, one := range groups {
-		for _, other := range groups[at+1:] {
-			for _, a := range one {
-				for _, b := range other {
-					// Texts of one byte stand in one place for the whole program.
-					if len(a) > 1 && len(b) > 1 && sharesText(a, b) {
-						t.Errorf("%s: %q and %q share memory", what, a, b)
-					}
-				}
-			}
-		}
-	}
+	wantApart(t, what, given, x.Lapb.Queue, sent, x.Got)
 }
 
 // spoilLapb writes over all that was handed back, and behind it.
