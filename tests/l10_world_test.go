@@ -72,14 +72,16 @@ func (w *lineWords) comesFrom(end int) {
 	w.lines[end] = withoutFirst(w.lines[end])
 	var found []impl.Found
 	w.deframers[to], found = deframeByRule(w.deframers[to], f.bytes)
-	for at, x := range found {
+	first := true
+	for _, x := range found {
 		if x.Kind != 1 {
 			w.out.Bad++
 			continue
 		}
-		if at != 0 || x.Text != f.text {
+		if !first || x.Text != f.text {
 			w.out.False++
 		}
+		first = false
 		p := unpackByRule(x.Text)
 		if n := numberedReadByRule(p.Text); p.Code == 0 && p.Proto == 33 && n != (impl.Numbered{}) {
 			w.tells(to, lapbHearByRule(w.lapbs[to], n))
@@ -325,7 +327,13 @@ func TestSettledLinesThatAreKnown(t *testing.T) {
 	for _, script := range [][]int64{nil, events(0), events(0, 2), events(0, 2, 1), events(0, 1, 6), times(3, 0, 7), times(400, 2)} {
 		wantLineOut(t, fmt.Sprint(script), impl.LineRun(two, 1, script, true), done("one", "two"))
 	}
-	wantLineOut(t, "spoilt", impl.LineRun(two, 7, events(0, 2, turn(20), 1), true), impl.LineOut{Got: two, Done: true, Bad: 1})
+	last := 8 * (len(infoFrame(0, "one")) - 1)
+	for what, script := range map[string][]int64{
+		"spoilt":        events(0, 2, turn(20), 1),
+		"its last flag": events(0, turn(last), 1, 1),
+	} {
+		wantLineOut(t, what, impl.LineRun(two, 7, script, true), impl.LineOut{Got: two, Done: true, Bad: 1})
+	}
 	most := letters(20)
 	for window := range int64(7) {
 		wantLineOut(t, fmt.Sprint("all at once, window ", window+1), impl.LineRun(most, window+1, nil, true), done(most...))
@@ -550,7 +558,7 @@ func TestABitThatMakesAFlagOrAnEscape(t *testing.T) {
 	wantLineOut(t, "a last flag that is lost", impl.LineRun([]string{"aaaa"}, 7, events(0, turn(8*last), 1), false), got())
 	esc := events(0, 3, turn(8*last), turn(8*last+1), 1)
 	wantLineOut(t, "a last flag that is an escape", impl.LineRun([]string{"aaaa"}, 7, esc, false), got())
-	wantLineOut(t, "and the next flag", impl.LineRun([]string{"aaaa"}, 7, append(esc, 1), false), spoilt(1, 1, "aaaa"))
+	wantLineOut(t, "and the next flag", impl.LineRun([]string{"aaaa"}, 7, append(esc, 1), false), spoilt(1, 0, "aaaa"))
 }
 
 // Where each escape is none any more, there are more bytes than a frame may have.
@@ -567,28 +575,37 @@ func TestAFrameThatBecomesLong(t *testing.T) {
 	}
 }
 
-// What was found in part ends where the next frame begins. That one is good then, but not the first one
-// found in it, and so it is false.
+// What was found in part ends where the next frame begins: bad, and the first good one is the next frame's
+// own; or good, and then that one is a second one, and false.
 func TestDeframersGoOnFromFrameToFrame(t *testing.T) {
 	two := []string{"one", "two"}
-	last := 8 * (len(infoFrame(0, "one")) - 1)
+	frame := infoFrame(0, "one")
+	last := 8 * (len(frame) - 1)
+	late := turnsInto(frame, "\x7e"+frame[:len(frame)-1]) // all of it but its last flag, which the next frame brings
 	for _, x := range []struct {
 		what   string
 		script []int64
 		want   impl.LineOut
 	}{
 		{"the last flag of the first", events(0, turn(last), 1), got()},
-		{"the next one is there", events(0, turn(last), 1, 1), spoilt(1, 1)},
-		{"the same once more", events(0, 3, turn(last), 1, 1), spoilt(1, 1, "one")},
-		{"and the one behind it", events(0, 3, turn(last), 1, 1, 1), spoilt(1, 1, "one", "two")},
+		{"the next one is there", events(0, turn(last), 1, 1), spoilt(1, 0)},
+		{"the same once more", events(0, 3, turn(last), 1, 1), spoilt(1, 0, "one")},
+		{"and the one behind it", events(0, 3, turn(last), 1, 1, 1), spoilt(1, 0, "one", "two")},
+		{"bad each time", events(0, 3, 3, turn(last), 1, turn(last), 1, 1), spoilt(2, 0, "one")},
 		{"the first flag of the first", events(0, 3, turn(0), 1, 1, 1), spoilt(0, 0, "one", "two")},
 		{"the first flag of the second", events(0, 1, turn(0), 1), spoilt(1, 0, "one")},
 		{"the last flag, and the first one behind it", events(0, turn(last), 1, turn(0), 1), spoilt(1, 0)},
 		{"both flags of the first", events(0, 3, turn(0), turn(last), 1, 1, 1), spoilt(0, 0, "one", "two")},
-		{"a frame between is lost", events(0, 3, 3, turn(last), 1, 2, 1), spoilt(1, 1, "one")},
+		{"a frame between is lost", events(0, 3, 3, turn(last), 1, 2, 1), spoilt(1, 0, "one")},
+		{"late", events(0, late, 1), got()},
+		{"late, and the same once more", events(0, 3, late, 1, 1), spoilt(0, 1, "one")},
+		{"late, and another one", events(0, late, 1, 1), spoilt(0, 2, "one", "two")},
+		{"late, behind a bad one", events(0, 3, 3, turn(last), 1, late, 1, 1), spoilt(1, 1, "one")},
+		{"late twice", events(0, 3, 3, late, 1, late, 1, 1), spoilt(0, 1, "one")},
 	} {
 		wantLineOut(t, x.what, impl.LineRun(two, 7, x.script, false), x.want)
 		y := impl.LineRun(two, 7, x.script, true)
+		wantLineOut(t, x.what+", settled", y, lineRunByRule(two, 7, x.script, true))
 		if !slices.Equal(y.Got, two) || !y.Done {
 			t.Errorf("%s, settled: %+v", x.what, y)
 		}
